@@ -1,0 +1,1 @@
+"""Where programs with calls can come to."""
