@@ -6,62 +6,17 @@ A call is gone through as one piece, by what is kept of the place where it begin
 that it doesn't matter how deep the calls lie within one another.
 """
 
-ANY = 4
-
-GO = 0
-CALL = 1
-
-
-def push(heap, entry):
-    heap.append(entry)
-    at = len(heap) - 1
-    while at > 0 and entry < heap[(at - 1) // 2]:
-        heap[at] = heap[(at - 1) // 2]
-        at = (at - 1) // 2
-    heap[at] = entry
-
-
-def lesser_child(heap, at):
-    left = 2 * at + 1
-    if left + 1 < len(heap) and heap[left + 1] < heap[left]:
-        return left + 1
-    return left
-
-
-def sink(heap, entry):
-    at = 0
-    child = lesser_child(heap, at)
-    while child < len(heap) and heap[child] < entry:
-        heap[at] = heap[child]
-        at = child
-        child = lesser_child(heap, at)
-    heap[at] = entry
-
-
-def pop_least(heap):
-    last = heap.pop()
-    if len(heap) == 0:
-        return last
-    least = heap[0]
-    sink(heap, last)
-    return least
+from callruns.heap import pop_least, push
+from callruns.kinds import CALL, GO
 
 
 class Backs:
-    def __init__(self, value_count):
-        self.value_count = value_count
+    def __init__(self):
         self.known = {}
         self.goers = {}
         self.callers = {}
         self.waiters = {}
         self.offers = []
-
-    # Of kind 1 start is the point where the called function begins, of kind 0 the point to.
-    def add_rule(self, point, when, kind, set_to, start, goes_on):
-        for value in range(self.value_count):
-            if when == ANY or when == value:
-                after = value if set_to == ANY else set_to
-                self.add_step((point, value), kind, (start, after), goes_on)
 
     def add_step(self, place, kind, target, goes_on):
         if kind == GO:
@@ -121,8 +76,3 @@ class Backs:
             within = self.ends_of(target).get(place[1])
             if within is not None:
                 self.offer(caller, end, within + steps + 1)
-
-    # None if no run is back with that value.
-    def fewest_steps(self, point, value, end):
-        self.take_offers()
-        return self.ends_of((point, value)).get(end)

@@ -24,6 +24,22 @@ def back(f, v, w):
     return [3, f, v, w]
 
 
+def reach(v, i, w, j):
+    return [4, v, i, w, j]
+
+
+def way(v, i, w, j):
+    return [5, v, i, w, j]
+
+
+def forever(v, i):
+    return [6, v, i]
+
+
+def always(v, i):
+    return [7, v, i]
+
+
 def line(*calls):
     return [number for call in calls for number in call]
 
@@ -63,32 +79,111 @@ class Text:
         return Text(self.values, self.points, self.starts, self.rules + [one])
 
 
+def told_of(steps):
+    """What back and reach answer where these are the fewest steps, None if there is no run."""
+    if steps is None:
+        return [-6]
+    return [0, steps] if steps < LIMIT else [-75]
+
+
+def steps_told_behind_each_rule(text, asked):
+    """For each rule, what these questions tell when it has come: the steps, or LIMIT where none are told."""
+    calls = text.calls()[:1 + len(text.starts)]
+    built = len(calls)
+    for one in text.rules:
+        calls += [rule(*one)] + asked
+    rows = ask(*calls)[built:]
+    return [[row[1] if row[0] == 0 else LIMIT for row in rows[at + 1:at + 1 + len(asked)]]
+            for at in range(0, len(rows), 1 + len(asked))]
+
+
+def calls_with_questions_between(source, text, asked):
+    """The calls that build the program, with one of the questions behind each rule."""
+    calls = text.calls()
+    mixed = calls[:1 + len(text.starts)]
+    for call in calls[len(mixed):]:
+        mixed += [call, source.choice(asked)]
+    return mixed
+
+
 def steps_from(text, state):
-    """The states one step on. A state is a value, a point and the points behind calls; back has no point."""
+    """Each rule's number that fits, and the state one step on.
+
+    A state is a value, a point and the points behind calls, the latest first; back has no point.
+    """
     value, point, stack = state
-    for at, when, kind, set_to, to, goes_on in text.rules:
+    for number, (at, when, kind, set_to, to, goes_on) in enumerate(text.rules):
         if at == point and when in (ANY, value):
             after = value if set_to == ANY else set_to
             if kind == GO:
-                yield after, to, stack
+                yield number, (after, to, stack)
             elif kind == CALL:
-                yield after, text.starts[to], (goes_on,) + stack
+                yield number, (after, text.starts[to], (goes_on,) + stack)
             elif stack:
-                yield after, stack[0], stack[1:]
+                yield number, (after, stack[0], stack[1:])
             else:
-                yield after, None, ()
+                yield number, (after, None, ())
+
+
+def walk_ways(text, value, point, most):
+    """By walking every state within that many steps: the earliest of the fewest steps to each value and point.
+
+    Those with which it is back are told too, with None for the point.
+    """
+    start = (value, point, ())
+    seen = {start}
+    found = {}
+    level = [(start, [])]
+    while level:
+        after = []
+        for state, numbers in level:
+            found.setdefault(state[:2], numbers)
+            # The states of a level stand in the order of their ways, so the first way to a state is the earliest.
+            for number, onward in steps_from(text, state):
+                if onward not in seen and len(numbers) < most:
+                    seen.add(onward)
+                    after.append((onward, numbers + [number]))
+        level = after
+    return found
 
 
 def walk_till_back(text, point, value, most):
-    """By walking every run of at most that many steps: the fewest steps for each value it is back with."""
-    found = {}
-    states = {(value, point, ())}
-    for steps in range(most + 1):
-        for state in states:
-            if state[1] is None:
-                found.setdefault(state[0], steps)
-        states = {after for state in states if state[1] is not None for after in steps_from(text, state)}
-    return found
+    """By walking every state within that many steps: the fewest steps for each value it is back with."""
+    found = walk_ways(text, value, point, most)
+    return {w: len(numbers) for (w, j), numbers in found.items() if j is None}
+
+
+def walk_by(text, value, point, numbers):
+    """The state to which the rules of these numbers lead, one behind another; fails where one doesn't fit."""
+    state = (value, point, ())
+    for number in numbers:
+        state = dict(steps_from(text, state))[number]
+    return state
+
+
+def walk_all(text, value, point):
+    """By walking every state: "forever" if some run goes on without end, else "stuck" if one ends and isn't back.
+
+    Where calls that haven't come back are more than there are places, two of them have begun at one and the same
+    place, and what lies between them can be done again and again.
+    """
+    start = (value, point, ())
+    open_states, done, stuck = {start}, set(), False
+    trail = [(start, steps_from(text, start))]
+    while trail:
+        state, onward = trail[-1]
+        after = next(onward, (None, None))[1]
+        if after is None:
+            trail.pop()
+            open_states.remove(state)
+            done.add(state)
+            stuck = stuck or state[1] is not None and not list(steps_from(text, state))
+        elif after in open_states or len(after[2]) > text.values * text.points:
+            return "forever"
+        elif after not in done:
+            open_states.add(after)
+            trail.append((after, steps_from(text, after)))
+    return "stuck" if stuck else "always back"
 
 
 def ways_by(text, one, value):
@@ -126,6 +221,55 @@ def fewest_till_back(text):
     return fewest
 
 
+def edges_between(text):
+    """The fewest steps from each place (point, value) to the ones that come next, at a call within it and past it."""
+    fewest = fewest_till_back(text)
+    edges = {}
+    for point, when, kind, set_to, to, goes_on in text.rules:
+        for value in range(text.values):
+            if when in (ANY, value) and kind != RETURN:
+                after = value if set_to == ANY else set_to
+                ahead = [((to if kind == GO else text.starts[to], after), 1)]
+                for end in range(text.values):
+                    if kind == CALL and (text.starts[to], after, end) in fewest:
+                        ahead.append(((goes_on, end), 1 + fewest[(text.starts[to], after, end)]))
+                for onward, steps in ahead:
+                    pair = ((point, value), onward)
+                    edges[pair] = min(steps, edges.get(pair, steps))
+    return edges
+
+
+def every_place(text):
+    return [(point, value) for point in range(text.points) for value in range(text.values)]
+
+
+def fewest_between(text):
+    """By going over each place between two others: pairs of places to the fewest steps, of one step at least."""
+    rows = {place: {} for place in every_place(text)}
+    for (place, onward), steps in edges_between(text).items():
+        rows[place][onward] = steps
+    for middle in every_place(text):
+        for row in rows.values():
+            if middle in row:
+                for onward, steps in rows[middle].items():
+                    row[onward] = min(row[middle] + steps, row.get(onward, row[middle] + steps))
+    return rows
+
+
+def ends_of_all(text):
+    """For each place what walk_all tells, from the fewest steps between places."""
+    rows = fewest_between(text)
+    told = {}
+    for place in every_place(text):
+        come_to = [place] + list(rows[place])
+        if any(one in rows[one] for one in come_to):
+            told[place] = "forever"
+        else:
+            stuck = [one for one in come_to if not list(steps_from(text, (one[1], one[0], ())))]
+            told[place] = "stuck" if stuck else "always back"
+    return told
+
+
 def random_text(source, values, points, functions, rules):
     starts = [source.randrange(points) for _ in range(functions)]
     rows = []
@@ -136,6 +280,38 @@ def random_text(source, values, points, functions, rules):
         set_to = source.choice((ANY, source.randrange(values)))
         rows.append((source.randrange(points), when, kind, set_to, to, source.randrange(points)))
     return Text(values, points, starts, rows)
+
+
+def winding_text(source, length):
+    """A program whose ways are long, with many runs of the same number of steps.
+
+    Points 0 to 15 lie behind one another: from each to the next lead calls, and here and there a step past them.
+    Points 16 on belong to the functions, which come back in few steps, some by calling the one before them.
+    """
+    starts = [16, 19, 22, 25]
+    rows = []
+    for point in range(length):
+        rows += [(point, ANY, CALL, ANY, source.randrange(4), point + 1) for _ in range(2)]
+        if source.randrange(4) == 0:
+            rows.append((point, source.randrange(3), GO, source.randrange(3), point + 1, 0))
+    for number, start in enumerate(starts):
+        rows += [(start, ANY, GO, source.choice((ANY, 0, 1)), start + 1, 0),
+                 (start, ANY, GO, source.choice((ANY, 1, 2)), start + 2, 0),
+                 (start + 1, ANY, RETURN, ANY, 0, 0), (start + 1, source.randrange(3), RETURN, 2, 0, 0),
+                 (start + 2, ANY, CALL, ANY, max(number - 1, 0), start + 1),
+                 (start + 2, source.randrange(3), GO, ANY, start + 1, 0)]
+    source.shuffle(rows)
+    return Text(3, 28, starts, rows[:64])
+
+
+def doubling_text():
+    """Each function calls the next twice, the last is back at once where the value is 0 to 2."""
+    rows = [(24, value, RETURN, ANY, 0, 0) for value in range(3)]
+    for number in range(7):
+        first = 3 * number
+        rows += [(first, ANY, CALL, ANY, number + 1, first + 1), (first + 1, ANY, CALL, ANY, number + 1, first + 2),
+                 (first + 2, ANY, RETURN, ANY, 0, 0)]
+    return Text(4, 32, [3 * number for number in range(7)] + [24], rows)
 
 
 # How each of functions 0 to 6 of far_text ends at values 0 to 3: it goes through the next function as it

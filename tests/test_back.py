@@ -3,14 +3,9 @@
 import random
 import unittest
 
-from reference import (ANY, CALL, FAR_NEARER, GO, LARGEST, LIMIT, RETURN, Text, ask, ask_last, back, begin,
-                       far_text, fewest_till_back, function, random_text, rule, walk_till_back)
-
-
-def told_of(steps):
-    if steps is None:
-        return [-6]
-    return [0, steps] if steps < LIMIT else [-75]
+from reference import (ANY, CALL, FAR_NEARER, GO, LARGEST, LIMIT, RETURN, ask, ask_last, back, begin,
+                       calls_with_questions_between, doubling_text, far_text, fewest_till_back, function, random_text,
+                       rule, steps_told_behind_each_rule, told_of, walk_till_back)
 
 
 def every_back(text):
@@ -201,14 +196,8 @@ class FarTest(unittest.TestCase):
                 self.assertEqual(told, told_of(fewest.get((text.starts[f], v, w))))
 
     def test_twice_over(self):
-        # Each function calls the next twice, the last is back at once: 1, 5, 13, 29 steps and on.
-        rows = [(24, ANY, RETURN, ANY, 0, 0)]
-        for number in range(7):
-            first = 3 * number
-            rows += [(first, ANY, CALL, ANY, number + 1, first + 1),
-                     (first + 1, ANY, CALL, ANY, number + 1, first + 2), (first + 2, ANY, RETURN, ANY, 0, 0)]
-        text = Text(1, 32, [3 * number for number in range(7)] + [24], rows)
-        told = ask_every_back(text)
+        # From the last function to the first: 1, 5, 13, 29 steps and on.
+        told = ask_every_back(doubling_text())
         self.assertEqual([told[(7 - depth, 0, 0)] for depth in range(8)],
                          [[0, 2 ** (depth + 2) - 3] for depth in range(8)])
 
@@ -242,33 +231,18 @@ class LaterTest(unittest.TestCase):
         source = random.Random(5)
         for _ in range(40):
             text = random_text(source, source.randint(1, 4), source.randint(1, 6), source.randint(1, 4), 16)
-            asked = every_back(text)
-            calls = [begin(text.values, text.points)] + [function(point) for point in text.starts]
-            for one in text.rules:
-                calls += [rule(*one)] + [back(*one) for one in asked]
-            self.check_nearer(text, ask(*calls)[1 + len(text.starts):], len(asked))
-
-    def check_nearer(self, text, rows, count):
-        before = [LIMIT] * count
-        for number in range(len(text.rules)):
-            at = number * (count + 1)
-            self.assertEqual(rows[at], [number])
-            after = [row[1] if row[0] == 0 else LIMIT for row in rows[at + 1:at + 1 + count]]
-            self.assertTrue(all(new <= old for new, old in zip(after, before)))
-            before = after
+            told = steps_told_behind_each_rule(text, [back(*one) for one in every_back(text)])
+            self.assertEqual(len(told), 16)
+            for before, after in zip(told, told[1:]):
+                self.assertTrue(all(new <= old for new, old in zip(after, before)))
 
     def test_asking_in_between_changes_nothing(self):
         source = random.Random(7)
         for _ in range(40):
             text = random_text(source, source.randint(1, 4), source.randint(1, 8), source.randint(1, 8), 24)
-            asked = every_back(text)
-            calls = text.calls()
-            built = len(calls) - len(text.rules)
-            mixed = calls[:built]
-            for call in calls[built:]:
-                mixed += [call, back(*source.choice(asked))]
-            questions = [back(*one) for one in asked]
-            self.assertEqual(ask(*mixed, *questions)[-len(asked):], ask(*calls, *questions)[-len(asked):])
+            asked = [back(*one) for one in every_back(text)]
+            mixed = calls_with_questions_between(source, text, asked)
+            self.assertEqual(ask(*mixed, *asked)[-len(asked):], ask(*text.calls(), *asked)[-len(asked):])
 
 
 class AgainstSlowWaysTest(unittest.TestCase):

@@ -12,12 +12,12 @@ Break Continue Pass Call Attribute Subscript Slice Name Load Store List Tuple Di
 BoolOp And Or UnaryOp Not USub BinOp Add Sub Mult FloorDiv Mod Pow BitAnd BitOr BitXor LShift RShift Compare Eq NotEq
 Lt LtE Gt GtE In NotIn Is IsNot keyword""".split()
 
-BUILT_IN = """len range enumerate zip min max sum abs sorted reversed int str bool list tuple dict isinstance ord repr any
-all divmod""".split()
+BUILT_IN = """len range enumerate zip min max sum abs sorted reversed int str bool list tuple dict isinstance ord repr
+any all divmod""".split()
 
-METHODS = """append clear copy count endswith extend find get index insert isalnum isalpha isdigit islower isspace isupper
-items join keys ljust lower lstrip partition pop remove replace reverse rfind rjust rpartition rsplit rstrip setdefault
-split splitlines startswith strip update upper values zfill bit_length""".split()
+METHODS = """append clear copy count endswith extend find get index insert isalnum isalpha isdigit islower isspace
+isupper items join keys ljust lower lstrip partition pop remove replace reverse rfind rjust rpartition rsplit rstrip
+setdefault split splitlines startswith strip update upper values zfill bit_length""".split()
 
 BANNED_WORDS = """type typing typing_extensions enum Enum IntEnum StrEnum Flag IntFlag Generic Protocol ABC ABCMeta
 namedtuple NamedTuple TypedDict TYPE_CHECKING abstractmethod""".split()
@@ -155,6 +155,28 @@ class LanguageTest(unittest.TestCase):
             for node in ast.walk(tree):
                 if isinstance(node, ast.Name) and isinstance(node.ctx, ast.Load):
                     self.assertIn(node.id, own | set(BUILT_IN), (path, node.lineno))
+
+    def test_locals_are_not_called_like_a_class_or_an_import(self):
+        for path, tree in trees():
+            taken = {node.name for node in tree.body if isinstance(node, ast.ClassDef)}
+            taken |= {one.name for node in tree.body if isinstance(node, ast.ImportFrom) for one in node.names}
+            for node in ast.walk(tree):
+                if isinstance(node, ast.arg):
+                    self.assertIsNone(node.annotation, (path, node.lineno))
+                    self.assertNotIn(node.arg, taken, (path, node.lineno))
+                if isinstance(node, ast.Name) and isinstance(node.ctx, ast.Store):
+                    self.assertNotIn(node.id, taken, (path, node.lineno))
+
+    def test_what_is_walked_is_not_changed_in_the_loop(self):
+        for path, tree in trees():
+            for loop in ast.walk(tree):
+                if isinstance(loop, ast.For):
+                    walked = {ast.unparse(node) for node in ast.walk(loop.iter) if isinstance(node, ast.expr)}
+                    for node in [inner for row in loop.body for inner in ast.walk(row)]:
+                        if isinstance(node, ast.Attribute) and node.attr in CHANGES:
+                            self.assertNotIn(ast.unparse(node.value), walked - {"self"}, (path, node.lineno))
+                        if isinstance(node, ast.Subscript) and isinstance(node.ctx, ast.Store):
+                            self.assertNotIn(ast.unparse(node.value), walked - {"self"}, (path, node.lineno))
 
     def test_methods_and_values(self):
         methods = [name for path, tree in trees() for name in methods_of(tree)]
